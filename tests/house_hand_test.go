@@ -92,7 +92,7 @@ func recOkByHand(ahead []impl.Rec, rec impl.Rec) bool {
 	}
 	var keys []int
 	for _, x := range rec.Pairs {
-		if !magnitudeByHand(x.Val) {
+		if !numberIn(x.Key, 0, 31) || !magnitudeByHand(x.Val) {
 			return false
 		}
 		keys = append(keys, x.Key)

@@ -63,7 +63,7 @@ func TestPromise35HousesNotOk(t *testing.T) {
 	}
 	for i, x := range housesNotOk() {
 		kept := cloneHouse(x.house)
-		if !isNothing(x.house) {
+		if !isNothing(x.house) || houseOkByHand(x.house) {
 			t.Errorf("%d: %s: %+v", i, x.reason, kept)
 		}
 		if !sameHouse(x.house, kept) {
